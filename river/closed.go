@@ -4,6 +4,7 @@ import (
 	"slices"
 
 	"thalweg/api"
+	"thalweg/numbers"
 )
 
 // Closed reports whether a place is possibly, and surely, closed in an hour.
@@ -21,10 +22,10 @@ func Closed(r api.River, sides [][]api.Bounds, l []api.Closure, place, hour int)
 	}
 	level := s.level(p.number, hour)
 	possibly = level.High > p.Flood || slices.ContainsFunc(l, func(c api.Closure) bool {
-		return within(c.From, c.To, place) && c.Begin.Low <= hour && hour < c.End.High
+		return numbers.Within(c.From, c.To, place) && c.Begin.Low <= hour && hour < c.End.High
 	})
 	surely = level.Low > p.Flood || slices.ContainsFunc(l, func(c api.Closure) bool {
-		return within(c.From, c.To, place) && c.Begin.High <= hour && hour < c.End.Low
+		return numbers.Within(c.From, c.To, place) && c.Begin.High <= hour && hour < c.End.Low
 	})
 	return possibly, surely, api.OK
 }
@@ -34,8 +35,8 @@ func checkClosures(r api.River, l []api.Closure) api.Errno {
 	if len(l) > api.MaxClosures {
 		return api.ErrLong
 	}
-	possible := func(b api.Bounds) bool { return valid(b, -api.MaxRiverHours, 2*api.MaxRiverHours) }
-	if !every(l, func(c api.Closure) bool {
+	possible := func(b api.Bounds) bool { return numbers.Valid(b, -api.MaxRiverHours, 2*api.MaxRiverHours) }
+	if !numbers.Every(l, func(c api.Closure) bool {
 		_, begins := find(r, c.From)
 		_, ends := find(r, c.To)
 		return begins && ends && c.From <= c.To && possible(c.Begin) && possible(c.End)

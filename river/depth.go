@@ -5,6 +5,7 @@ import (
 	"math"
 
 	"thalweg/api"
+	"thalweg/numbers"
 )
 
 // site is a place of a river, with the reach in which it lies.
@@ -45,8 +46,8 @@ func (p site) beds(hour int) iter.Seq[api.Bounds] {
 func shoalAt(s api.Shoal, hour int) api.Bounds {
 	age := max(hour-s.Sounded, 0)
 	return api.Bounds{
-		Low:  s.Bed.Low + down(s.Grow.Low*age, 24),
-		High: s.Bed.High + up(s.Grow.High*age, 24),
+		Low:  s.Bed.Low + numbers.Down(s.Grow.Low*age, 24),
+		High: s.Bed.High + numbers.Up(s.Grow.High*age, 24),
 	}
 }
 
@@ -72,7 +73,7 @@ func (s stream) findAt(place, hour int) (site, api.Errno) {
 	if !found {
 		return site{}, api.ErrNone
 	}
-	if !within(0, s.hours()-1, hour) {
+	if !numbers.Within(0, s.hours()-1, hour) {
 		return site{}, api.ErrRange
 	}
 	return p, api.OK
@@ -87,7 +88,7 @@ func Bed(r api.River, place, hour int) (api.Bounds, api.Errno) {
 	if !found {
 		return api.Bounds{}, api.ErrNone
 	}
-	if !within(-api.MaxRiverHours, api.MaxRiverHours, hour) {
+	if !numbers.Within(-api.MaxRiverHours, api.MaxRiverHours, hour) {
 		return api.Bounds{}, api.ErrRange
 	}
 	return p.bed(hour), api.OK
@@ -138,7 +139,7 @@ func (s stream) checkWay(way []api.Pass) api.Errno {
 		if _, found := find(s.River, p.Place); !found {
 			return api.ErrNone
 		}
-		if !valid(p.Hours, 0, s.hours()-1) {
+		if !numbers.Valid(p.Hours, 0, s.hours()-1) {
 			return api.ErrRange
 		}
 	}

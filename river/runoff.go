@@ -1,6 +1,9 @@
 package river
 
-import "thalweg/api"
+import (
+	"thalweg/api"
+	"thalweg/numbers"
+)
 
 // pack is what is left of the snow.
 type pack struct {
@@ -27,8 +30,8 @@ func Runoff(c api.Catch, sky []api.SkyHour) ([]api.Bounds, api.Errno) {
 		melted := snow.melt(api.Bounds{Low: c.Melt * max(heat.Low, 0), High: c.Melt * max(heat.High, 0)})
 		water := sum(sky[hour].Rain, melted)
 		list[hour] = api.Bounds{
-			Low:  down(c.Area*water.Low*c.Percent, 10),
-			High: up(c.Area*water.High*c.Percent, 10),
+			Low:  numbers.Down(c.Area*water.Low*c.Percent, 10),
+			High: numbers.Up(c.Area*water.High*c.Percent, 10),
 		}
 	}
 	return list, api.OK
@@ -36,14 +39,14 @@ func Runoff(c api.Catch, sky []api.SkyHour) ([]api.Bounds, api.Errno) {
 
 // checkSky returns the error of a land and of a sky above it.
 func checkSky(c api.Catch, sky []api.SkyHour) api.Errno {
-	if !within(0, api.MaxArea, c.Area) || !within(0, 100, c.Percent) || !within(0, api.MaxMelt, c.Melt) || !valid(c.Snow, 0, api.MaxSnow) {
+	if !numbers.Within(0, api.MaxArea, c.Area) || !numbers.Within(0, 100, c.Percent) || !numbers.Within(0, api.MaxMelt, c.Melt) || !numbers.Valid(c.Snow, 0, api.MaxSnow) {
 		return api.ErrArg
 	}
 	if len(sky) > api.MaxRiverHours {
 		return api.ErrLong
 	}
-	if !every(sky, func(h api.SkyHour) bool {
-		return valid(h.Rain, 0, api.MaxRain) && valid(h.Heat, -api.MaxHeat, api.MaxHeat)
+	if !numbers.Every(sky, func(h api.SkyHour) bool {
+		return numbers.Valid(h.Rain, 0, api.MaxRain) && numbers.Valid(h.Heat, -api.MaxHeat, api.MaxHeat)
 	}) {
 		return api.ErrArg
 	}

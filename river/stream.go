@@ -4,6 +4,7 @@ import (
 	"slices"
 
 	"thalweg/api"
+	"thalweg/numbers"
 )
 
 // stream is a river with the flow of each of its reaches in each hour of a forecast.
@@ -56,8 +57,8 @@ func (s stream) level(reach, hour int) api.Bounds {
 // levelAt returns the level of a valid reach at a flow.
 func levelAt(x api.Reach, flow api.Bounds) api.Bounds {
 	return api.Bounds{
-		Low:  max(curveAt(x.Curve, flow.Low, down), x.Weir),
-		High: max(curveAt(x.Curve, flow.High, up), x.Weir),
+		Low:  max(curveAt(x.Curve, flow.Low, numbers.Down), x.Weir),
+		High: max(curveAt(x.Curve, flow.High, numbers.Up), x.Weir),
 	}
 }
 
@@ -85,7 +86,7 @@ func Level(x api.Reach, flow api.Bounds) (api.Bounds, api.Errno) {
 	if !validReach(x) {
 		return api.Bounds{}, api.ErrArg
 	}
-	if !valid(flow, 0, api.MaxReaches*api.MaxSide+api.MaxSide) {
+	if !numbers.Valid(flow, 0, api.MaxReaches*api.MaxSide+api.MaxSide) {
 		return api.Bounds{}, api.ErrRange
 	}
 	return levelAt(x, flow), api.OK
@@ -112,10 +113,10 @@ func Volume(r api.River, sides [][]api.Bounds, reach, from, to int) (api.Bounds,
 	if e != api.OK {
 		return api.Bounds{}, e
 	}
-	if !within(0, len(s.Reaches)-1, reach) {
+	if !numbers.Within(0, len(s.Reaches)-1, reach) {
 		return api.Bounds{}, api.ErrNone
 	}
-	if !within(0, s.hours(), from, to) || from > to {
+	if !numbers.Within(0, s.hours(), from, to) || from > to {
 		return api.Bounds{}, api.ErrRange
 	}
 	return sum(s.flows[reach][from:to]...), api.OK
