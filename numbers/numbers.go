@@ -13,6 +13,16 @@ func Valid(b api.Bounds, low, high int) bool {
 	return b.Low <= b.High && Within(low, high, b.Low, b.High)
 }
 
+// Sum returns bounds of the sum of numbers that are known within bounds.
+func Sum(parts ...api.Bounds) api.Bounds {
+	total := api.Bounds{}
+	for _, b := range parts {
+		total.Low += b.Low
+		total.High += b.High
+	}
+	return total
+}
+
 // Every reports whether a condition holds for all elements of a list.
 func Every[T any](list []T, holds func(T) bool) bool {
 	for _, x := range list {

@@ -35,6 +35,13 @@ func TestValid(t *testing.T) {
 	}
 }
 
+func TestSum(t *testing.T) {
+	a, b := api.Bounds{Low: -3, High: 4}, api.Bounds{Low: 5, High: 50}
+	if numbers.Sum() != (api.Bounds{}) || numbers.Sum(a) != a || numbers.Sum(a, b, a) != (api.Bounds{Low: -1, High: 58}) {
+		t.Error(numbers.Sum(), numbers.Sum(a), numbers.Sum(a, b, a))
+	}
+}
+
 func TestRounding(t *testing.T) {
 	for _, c := range []struct{ a, b, down, up int }{
 		{7, 2, 3, 4}, {8, 2, 4, 4}, {-7, 2, -4, -3}, {-8, 2, -4, -4}, {0, 5, 0, 0}, {1, 5, 0, 1}, {-1, 5, -1, 0},

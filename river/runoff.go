@@ -28,7 +28,7 @@ func Runoff(c api.Catch, sky []api.SkyHour) ([]api.Bounds, api.Errno) {
 	for hour := range len(sky) {
 		heat := sky[hour].Heat
 		melted := snow.melt(api.Bounds{Low: c.Melt * max(heat.Low, 0), High: c.Melt * max(heat.High, 0)})
-		water := sum(sky[hour].Rain, melted)
+		water := numbers.Sum(sky[hour].Rain, melted)
 		list[hour] = api.Bounds{
 			Low:  numbers.Down(c.Area*water.Low*c.Percent, 10),
 			High: numbers.Up(c.Area*water.High*c.Percent, 10),

@@ -25,7 +25,7 @@ func run(r api.River, sides [][]api.Bounds) (stream, api.Errno) {
 	for reach, side := range sides {
 		list := make([]api.Bounds, len(side))
 		for hour := range len(side) {
-			list[hour] = sum(side[hour], s.inflow(reach, hour))
+			list[hour] = numbers.Sum(side[hour], s.inflow(reach, hour))
 		}
 		s.flows = append(s.flows, list)
 	}
@@ -119,5 +119,5 @@ func Volume(r api.River, sides [][]api.Bounds, reach, from, to int) (api.Bounds,
 	if !numbers.Within(0, s.hours(), from, to) || from > to {
 		return api.Bounds{}, api.ErrRange
 	}
-	return sum(s.flows[reach][from:to]...), api.OK
+	return numbers.Sum(s.flows[reach][from:to]...), api.OK
 }
